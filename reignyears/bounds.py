@@ -1,0 +1,9 @@
+"""How much there may be of what is handed in and kept."""
+
+MOST_REIGN_YEARS = 40
+FEWEST_NAMES = 2
+MOST_NAMES = 16
+HIGHEST_FIRST_YEAR = 500
+HIGHEST_YEAR = 2000
+MOST_ENTRIES = 10
+MOST_CHANGES = 20
