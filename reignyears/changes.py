@@ -1,4 +1,4 @@
-"""The calls that begin anew or change what is told. Each gives back the numbers that it answers."""
+"""The calls that begin anew, change what is told, or take changes back. Each gives back the numbers it answers."""
 
 from reignyears.bounds import FEWEST_NAMES, HIGHEST_FIRST_YEAR, HIGHEST_YEAR
 from reignyears.bounds import MOST_ENTRIES, MOST_NAMES, MOST_REIGN_YEARS
@@ -74,3 +74,17 @@ def ny_up_to(chronicle, e):
         return [ALREADY_SO]
     chronicle.change_last_year(e)
     return [before]
+
+
+def ny_back(chronicle):
+    if len(chronicle.history.past) == 0:
+        return [NOT_THERE]
+    chronicle.step_back()
+    return [len(chronicle.history.past)]
+
+
+def ny_again(chronicle):
+    if len(chronicle.history.undone) == 0:
+        return [NOT_THERE]
+    chronicle.step_again()
+    return [len(chronicle.history.undone)]

@@ -1,11 +1,8 @@
-"""The calls that change nothing. Each gives back the numbers that it answers, out behind the first."""
+"""The calls that ask how years and entries are told. Each gives back the numbers that it answers."""
 
-from reignyears.bounds import HIGHEST_YEAR, MOST_ENTRIES
-from reignyears.readings import count_readings, latest_reading, soonest_reading
+from reignyears.bounds import HIGHEST_YEAR
 from reignyears.refusals import CANNOT_BE, NOT_THERE, OUT_OF_BOUNDS
-from reignyears.years import all_entry_years, entry_years, year_in_reign, year_name, year_round
-
-COUNTED_UP_TO = 1000000007
+from reignyears.years import entry_years, year_in_reign, year_name, year_round
 
 
 def ny_name(chronicle, y):
@@ -25,21 +22,16 @@ def ny_years(chronicle, i):
     return [len(years), years[0], years[len(years) - 1]]
 
 
-def reading_answer(reading):
-    """The answer that tells a reading, or that there's none (reading is None)."""
-    if reading is None:
-        return [CANNOT_BE]
-    return [len(reading)] + reading + [0] * (MOST_ENTRIES - len(reading))
+def ny_told(chronicle, i):
+    if not chronicle.has_entry(i):
+        return [NOT_THERE]
+    entry = chronicle.entries[i]
+    # One more than the year, since 0 tells that it isn't known.
+    known = 0 if entry.known is None else entry.known + 1
+    return [entry.name, entry.reign_year, known]
 
 
-def ny_soonest(chronicle):
-    return reading_answer(soonest_reading(all_entry_years(chronicle)))
-
-
-def ny_latest(chronicle):
-    return reading_answer(latest_reading(all_entry_years(chronicle), chronicle.last_year))
-
-
-def ny_count(chronicle):
-    total = count_readings(all_entry_years(chronicle))
-    return [1 if total > 0 else 0, total % COUNTED_UP_TO]
+def ny_state(chronicle):
+    reigns = [chronicle.reign_length, chronicle.name_total, chronicle.first_year, chronicle.last_year]
+    changes = [len(chronicle.history.past), len(chronicle.history.undone)]
+    return [len(chronicle.entries)] + reigns + changes

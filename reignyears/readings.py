@@ -1,7 +1,18 @@
 """Readings: one year of each entry, each later than the one before.
 
-All functions here take one list that holds for each entry the list of its years, from the first on.
+All functions about readings take one list that holds for each entry the list of its years, from the first on.
 """
+
+
+class Span:
+    """An entry's soonest and its latest year in any reading."""
+
+    def __init__(self, soonest, latest):
+        self.soonest = soonest
+        self.latest = latest
+
+    def is_one_year(self):
+        return self.soonest == self.latest
 
 
 def first_later(years, before):
@@ -44,6 +55,16 @@ def latest_reading(years_of_each, last_year):
         backwards.append(year)
         behind = year
     return list(reversed(backwards))
+
+
+def entry_spans(years_of_each, last_year):
+    """For each entry its span, or None if there's no reading."""
+    # In no reading is any entry sooner than in the soonest one, or later than in the latest.
+    soonest = soonest_reading(years_of_each)
+    latest = latest_reading(years_of_each, last_year)
+    if soonest is None or latest is None:
+        return None
+    return [Span(first, last) for first, last in zip(soonest, latest)]
 
 
 def ways_to_reach(years, years_before, ways_before):

@@ -51,6 +51,46 @@ def count():
     return [10]
 
 
+def sure():
+    return [11]
+
+
+def when(i):
+    return [12, i]
+
+
+def apart(i, j):
+    return [13, i, j]
+
+
+def one():
+    return [14]
+
+
+def rounds(i):
+    return [15, i]
+
+
+def could(i, y):
+    return [16, i, y]
+
+
+def how_told(i):
+    return [17, i]
+
+
+def back():
+    return [18]
+
+
+def again():
+    return [19]
+
+
+def state():
+    return [20]
+
+
 def one_list(calls):
     return [number for call in calls for number in call]
 
@@ -82,3 +122,13 @@ def last(*calls):
 def padded(*entry_years):
     """What ny_soonest and ny_latest answer for these years."""
     return [len(entry_years)] + list(entry_years) + [0] * (10 - len(entry_years))
+
+
+def asked(entries):
+    """Every question, of so many entries and of one that isn't there."""
+    calls = [state(), soonest(), latest(), count(), one(), sure(), name(0), name(500)]
+    for i in range(entries + 1):
+        calls += [how_told(i), years(i), when(i), rounds(i)]
+        calls += [apart(i, j) for j in range(entries + 1)]
+        calls += [could(i, y) for y in range(0, 80)]
+    return calls

@@ -3,7 +3,9 @@ import unittest
 from reignyears.changes import ny_drop, ny_forget, ny_know, ny_start, ny_tell, ny_up_to
 from reignyears.chronicle import Chronicle
 from reignyears.history import History
-from reignyears.questions import ny_count, ny_latest, ny_name, ny_soonest, ny_years
+from reignyears.questions import ny_name, ny_state, ny_told, ny_years
+from reignyears.reading_questions import (ny_apart, ny_could, ny_count, ny_latest, ny_one, ny_rounds, ny_soonest,
+                                          ny_sure, ny_when)
 
 
 def started():
@@ -49,6 +51,14 @@ class WhatAChangeIs(unittest.TestCase):
         ny_soonest(chronicle)
         ny_latest(chronicle)
         ny_count(chronicle)
+        ny_sure(chronicle)
+        ny_when(chronicle, 0)
+        ny_apart(chronicle, 0, 0)
+        ny_one(chronicle)
+        ny_rounds(chronicle, 0)
+        ny_could(chronicle, 0, 11)
+        ny_told(chronicle, 0)
+        ny_state(chronicle)
         self.assertEqual(len(chronicle.history.past), 1)
 
     def test_a_start_leaves_no_changes_a_refused_one_leaves_them(self):

@@ -1,8 +1,6 @@
-import math
 import unittest
 
-from support import (LARGEST, NO_YEARS, count, drop, forget, know, last, latest, name, padded, run, soonest, start,
-                     tell, up_to, years)
+from support import LARGEST, drop, forget, how_told, know, last, name, run, soonest, start, tell, up_to, years
 
 # Reigns of 4 years and 3 names from year 10 on: a round is 12 years.
 START = start(4, 3, 10, 60)
@@ -36,15 +34,15 @@ class Name(unittest.TestCase):
     def test_each_year_has_the_name_that_counting_gives(self):
         t, n, f = 7, 5, 23
         k, j, turns = 0, 0, 0
-        told = []
+        counted = []
         for year in range(f, 401):
-            told.append([k, j, turns])
+            counted.append([k, j, turns])
             j += 1
             if j == t:
                 j, k = 0, k + 1
             if k == n:
                 k, turns = 0, turns + 1
-        self.assertEqual(run(start(t, n, f, 100), *[name(year) for year in range(f, 401)])[1:], told)
+        self.assertEqual(run(start(t, n, f, 100), *[name(year) for year in range(f, 401)])[1:], counted)
 
 
 class Years(unittest.TestCase):
@@ -76,118 +74,38 @@ class Years(unittest.TestCase):
                          [[60], [1, 28, 28], [28], [0, 0, 0]])
 
 
-class SoonestAndLatest(unittest.TestCase):
-    def both(self, *calls):
-        answered = run(*calls, soonest(), latest())
-        return answered[-2], answered[-1]
+class Told(unittest.TestCase):
+    def test_there_is_none(self):
+        self.assertEqual(run(START, how_told(0), tell(0, 0), how_told(0), how_told(1), how_told(LARGEST), drop(),
+                             how_told(0)),
+                         [[0], [-2], [0], [0, 0, 0], [-2], [-2], [0], [-2]])
 
-    def test_no_entries(self):
-        self.assertEqual(self.both(START), ([0] + NO_YEARS, [0] + NO_YEARS))
+    def test_the_name_then_the_year_of_the_reign_then_one_more_than_the_known_year(self):
+        self.assertEqual(run(START, tell(1, 3), how_told(0), know(0, 29), how_told(0), forget(0), how_told(0))[2:],
+                         [[1, 3, 0], [0], [1, 3, 30], [29], [1, 3, 0]])
 
-    def test_no_entries_any_more(self):
-        self.assertEqual(self.both(START, tell(0, 0), drop()), ([0] + NO_YEARS, [0] + NO_YEARS))
+    def test_each_entry_by_its_number(self):
+        self.assertEqual(run(START, tell(2, 1), tell(0, 3), tell(1, 0), know(1, 25), how_told(0), how_told(1),
+                             how_told(2))[5:],
+                         [[2, 1, 0], [0, 3, 26], [1, 0, 0]])
 
-    def test_one(self):
-        self.assertEqual(self.both(START, tell(1, 2)), (padded(16), padded(52)))
+    def test_known_to_have_been_year_0(self):
+        self.assertEqual(run(start(1, 2, 0, 9), tell(0, 0), how_told(0), know(0, 0), how_told(0))[2:],
+                         [[0, 0, 0], [0], [0, 0, 1]])
 
-    def test_one_in_year_0(self):
-        self.assertEqual(self.both(start(1, 2, 0, 1), tell(0, 0)), (padded(0), padded(0)))
+    def test_known_to_have_been_the_highest_year(self):
+        self.assertEqual(last(SHORTEST, tell(0, 0), know(0, 2000), how_told(0)), [0, 0, 2001])
 
-    def test_the_order_matters(self):
-        self.assertEqual(self.both(START, tell(0, 1), tell(2, 0)), (padded(11, 18), padded(47, 54)))
-        self.assertEqual(self.both(START, tell(2, 0), tell(0, 1)), (padded(18, 23), padded(54, 59)))
+    def test_known_but_not_looked_at_any_more(self):
+        self.assertEqual(run(START, tell(1, 1), know(0, 51), up_to(50), years(0), how_told(0), up_to(51),
+                             how_told(0))[4:],
+                         [[0, 0, 0], [1, 1, 52], [50], [1, 1, 52]])
 
-    def test_told_the_same_way_they_are_a_round_apart(self):
-        self.assertEqual(self.both(START, tell(1, 0), tell(1, 0), tell(1, 0)), (padded(14, 26, 38), padded(26, 38, 50)))
+    def test_also_where_there_is_no_reading(self):
+        self.assertEqual(run(start(4, 3, 10, 10), tell(2, 3), soonest(), how_told(0))[2:], [[-33], [2, 3, 0]])
 
-    def test_what_is_known_moves_the_others(self):
-        self.assertEqual(self.both(START, tell(0, 0), tell(1, 0), tell(0, 0), know(1, 26)),
-                         (padded(10, 26, 34), padded(22, 26, 58)))
-
-    def test_no_reading(self):
-        for calls in (
-            (start(4, 3, 10, 13), tell(1, 0)),
-            (start(4, 3, 10, 21), tell(1, 0), tell(0, 0)),
-            (start(4, 3, 10, 25), tell(1, 0), tell(1, 0)),
-            (START, tell(0, 0), tell(0, 0), know(0, 58)),
-            (START, tell(0, 0), tell(0, 0), know(0, 34), know(1, 22)),
-            (START, tell(0, 0), tell(0, 0), know(0, 22), know(1, 22)),
-            (START, tell(0, 0), know(0, 58), up_to(57)),
-        ):
-            with self.subTest(calls=calls):
-                self.assertEqual(self.both(*calls), ([-33], [-33]))
-
-    def test_just_enough_years(self):
-        self.assertEqual(self.both(start(4, 3, 10, 22), tell(1, 0), tell(0, 0)), (padded(14, 22), padded(14, 22)))
-
-    def test_ten_entries(self):
-        told = [tell(i % 3, i % 4) for i in range(10)]
-        first = [10, 10, 15, 20, 25, 26, 31, 36, 41, 42, 47]
-        self.assertEqual(self.both(START, *told), (first, [10, 22, 27, 32, 37, 38, 43, 48, 53, 54, 59]))
-        self.assertEqual(self.both(START, *told, up_to(47)), (first, first))
-        self.assertEqual(self.both(START, *told, up_to(46)), ([-33], [-33]))
-
-    def test_ten_entries_in_just_as_many_years(self):
-        told = [tell(i % 2, 0) for i in range(10)]
-        years_told = list(range(10))
-        self.assertEqual(self.both(start(1, 2, 0, 9), *told), ([10] + years_told, [10] + years_told))
-        self.assertEqual(self.both(start(1, 2, 0, 8), *told), ([-33], [-33]))
-
-    def test_ten_numbers_of_out_whichever_entries_there_are(self):
-        calls = [SHORTEST]
-        for there in range(11):
-            self.assertEqual([len(answer) for answer in self.both(*calls)], [11, 11])
-            self.assertEqual([answer[0] for answer in self.both(*calls)], [there, there])
-            calls.append(tell(0, 0))
-
-    def test_looked_at_farther_the_soonest_is_the_same(self):
-        told = (tell(1, 0), tell(0, 3), tell(0, 3))
-        answered = run(start(4, 3, 10, 37), *told, soonest(), latest(), up_to(2000), soonest(), latest())[4:]
-        self.assertEqual(answered, [padded(14, 25, 37), padded(14, 25, 37), [37],
-                                    padded(14, 25, 37), padded(1970, 1981, 1993)])
-
-
-class Count(unittest.TestCase):
-    def test_no_entries(self):
-        self.assertEqual(last(START, count()), [1, 1])
-        self.assertEqual(last(START, tell(0, 0), drop(), count()), [1, 1])
-
-    def test_no_reading(self):
-        self.assertEqual(last(start(4, 3, 10, 13), tell(1, 0), count()), [0, 0])
-        self.assertEqual(last(start(4, 3, 10, 25), tell(1, 0), tell(1, 0), count()), [0, 0])
-        self.assertEqual(last(START, tell(0, 0), tell(0, 0), know(0, 58), count()), [0, 0])
-
-    def test_one_entry_has_as_many_as_years(self):
-        self.assertEqual(last(START, tell(1, 2), count()), [1, 4])
-        self.assertEqual(last(START, tell(1, 2), know(0, 28), count()), [1, 1])
-
-    def test_several(self):
-        self.assertEqual(last(START, tell(0, 1), tell(2, 0), count()), [1, 10])
-        self.assertEqual(last(START, tell(2, 0), tell(0, 1), count()), [1, 10])
-        self.assertEqual(last(START, tell(1, 0), tell(1, 0), count()), [1, 6])
-        self.assertEqual(last(START, tell(1, 0), tell(1, 0), tell(1, 0), tell(1, 0), count()), [1, 1])
-
-    def test_known_it_is_no_more_and_forgotten_no_fewer(self):
-        told = (START, tell(0, 0), tell(1, 0), tell(0, 0))
-        self.assertEqual(run(*told, count(), know(1, 26), count(), forget(1), count())[4:],
-                         [[1, 20], [0], [1, 6], [26], [1, 20]])
-
-    def test_looked_at_farther(self):
-        self.assertEqual(run(start(4, 3, 10, 25), tell(1, 0), tell(1, 0), count(), up_to(26), count(),
-                             up_to(38), count(), up_to(25), count())[3::2],
-                         [[0, 0], [1, 1], [1, 3], [0, 0]])
-
-    def test_above_1000000007(self):
-        ways = math.comb(1001, 10)
-        self.assertGreater(ways, 1000000007)
-        self.assertEqual(last(SHORTEST, *[tell(0, 0)] * 10, count()), [1, ways % 1000000007])
-
-    def test_below_1000000007_and_the_first_above(self):
-        self.assertEqual(last(SHORTEST, *[tell(0, 0)] * 3, count()), [1, math.comb(1001, 3)])
-        # Of four in m years each the ways go past 1,000,000,007 from m = 395 to m = 396.
-        self.assertLess(math.comb(395, 4), 1000000007)
-        self.assertEqual(last(start(1, 2, 0, 788), *[tell(0, 0)] * 4, count()), [1, math.comb(395, 4)])
-        self.assertEqual(last(start(1, 2, 0, 790), *[tell(0, 0)] * 4, count()), [1, math.comb(396, 4) - 1000000007])
+    def test_the_last_name_and_year_of_a_reign_that_there_can_be(self):
+        self.assertEqual(last(start(40, 16, 500, 2000), tell(15, 39), know(0, 1139), how_told(0)), [15, 39, 1140])
 
 
 if __name__ == "__main__":
